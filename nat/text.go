@@ -17,15 +17,30 @@ var (
 	tens     [limbDigits + 1]uint64
 )
 
-// tenTo is 10 to the k, k from 0 to limbDigits.
-func tenTo(k int) uint64 {
-	tensOnce.Do(func() {
-		tens[0] = 1
-		for i := 1; i < len(tens); i++ {
-			tens[i] = 10 * tens[i-1]
-		}
-	})
-	return tens[k]
+// TenTo is 10 to the k, told from the table: ErrArg, unless k is from 0 to 19
+// (so that it is a limb's).
+func TenTo(k int) ([]uint64, api.Errno) {
+	if k < 0 || k > limbDigits {
+		return nil, api.ErrArg
+	}
+	tensOnce.Do(fillTens)
+	return Of(tens[k]), api.OK
+}
+
+func fillTens() {
+	for k := range tens {
+		tens[k] = powerOfTen(k)
+	}
+}
+
+// powerOfTen is 10 to the k, k from 0 to limbDigits. Text and Parse reckon by
+// it and not by the table, so that they hang on what they are given alone.
+func powerOfTen(k int) uint64 {
+	power := uint64(1)
+	for range k {
+		power *= 10
+	}
+	return power
 }
 
 // Text is a's decimal digits, no noughts ahead.
@@ -50,7 +65,7 @@ func squaresOfTen(n int) [][]uint64 {
 	if n <= shortLimbs {
 		return nil
 	}
-	top := Of(tenTo(limbDigits))
+	top := Of(powerOfTen(limbDigits))
 	l := [][]uint64{top}
 	for 2*len(top)-1 <= n {
 		top = Mul(top, top)
@@ -80,8 +95,9 @@ func write(dst []byte, a []uint64, squares [][]uint64) {
 
 // writeLimbs fills dst with a's digits, noughts ahead; a is used up.
 func writeLimbs(dst []byte, a []uint64) {
+	by := powerOfTen(limbDigits)
 	for len(dst) > 0 {
-		v := divideByLimb(a, tenTo(limbDigits))
+		v := divideByLimb(a, by)
 		a = trim(a)
 		end := max(0, len(dst)-limbDigits)
 		for i := len(dst) - 1; i >= end; i-- {
@@ -104,7 +120,7 @@ func Parse(s string) ([]uint64, api.Errno) {
 	a := make([]uint64, 0, len(s)/limbDigits+1)
 	for len(s) > 0 {
 		n := (len(s)-1)%limbDigits + 1
-		a = timesAnd(a, tenTo(n), limbOf(s[:n]))
+		a = timesAnd(a, powerOfTen(n), limbOf(s[:n]))
 		s = s[n:]
 	}
 	return a, api.OK
