@@ -37,8 +37,9 @@ func answers(a, b api.Rat) [][]uint64 {
 	quotient, _ := rat.Div(a, b)
 	made, _ := rat.Make(a.P, b.P)
 	parsed, _ := rat.Parse(rat.Text(a))
+	operated, _ := rat.Operate('-', a, b)
 	cmp, sign := int64(rat.Cmp(a, b)), int64(rat.Sign(a))
-	for _, x := range []api.Rat{rat.Neg(a), rat.Abs(a), rat.Add(a, b), rat.Sub(a, b), rat.Add(a, api.Rat{}), rat.Sub(api.Rat{}, b), rat.Mul(a, b), rat.Mul(a, rat.Of(1, 1)), quotient, made, parsed, rat.Of(cmp, sign)} {
+	for _, x := range []api.Rat{rat.Neg(a), rat.Abs(a), rat.Add(a, b), rat.Sub(a, b), rat.Add(a, api.Rat{}), rat.Sub(api.Rat{}, b), rat.Mul(a, b), rat.Mul(a, rat.Of(1, 1)), quotient, operated, made, parsed, rat.Of(cmp, sign)} {
 		l = append(l, x.P.N, x.Q)
 	}
 	return append(l, rat.Floor(a).N, rat.Ceil(a).N, rat.Floor(b).N, rat.Ceil(b).N)
